@@ -1,0 +1,1 @@
+"""Box assortment planner: which box sizes a packing station best keeps in stock."""

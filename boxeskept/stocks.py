@@ -1,0 +1,126 @@
+"""What a stock of boxes costs, and which stock costs least."""
+
+BAD_LIST = -22
+NO_SUCH_BOX = -2
+
+EDGES = 3
+NUMBERS_PER_BOX = 3
+NUMBERS_PER_ITEM = 4
+MOST_BOXES = 7
+MOST_ITEMS = 8
+LONGEST_EDGE = 20
+GREATEST_QUANTITY = 99
+COST_WITHOUT_BOX = 100000
+
+
+def in_range(numbers, greatest):
+    """Whether every number is from 1 to the greatest."""
+    for number in numbers:
+        if number < 1 or number > greatest:
+            return False
+    return True
+
+
+def has_length(numbers, step, most):
+    """Whether the list holds whole groups of so many numbers, and at most so many groups."""
+    return len(numbers) % step == 0 and len(numbers) <= step * most
+
+
+def are_boxes(boxes):
+    """Whether the list is one of boxes, within the limits."""
+    return has_length(boxes, NUMBERS_PER_BOX, MOST_BOXES) and in_range(boxes, LONGEST_EDGE)
+
+
+def are_items(items):
+    """Whether the list is one of items, within the limits."""
+    if not has_length(items, NUMBERS_PER_ITEM, MOST_ITEMS):
+        return False
+    for start in range(0, len(items), NUMBERS_PER_ITEM):
+        if not in_range(items[start:start + EDGES], LONGEST_EDGE):
+            return False
+    return in_range(quantities_of(items), GREATEST_QUANTITY)
+
+
+def quantities_of(items):
+    """The quantity of each item, in the order of the list."""
+    return items[EDGES::NUMBERS_PER_ITEM]
+
+
+def sorted_sizes(numbers, step):
+    """The sorted edge lengths that each group of so many numbers begins with."""
+    return [sorted(numbers[start:start + EDGES]) for start in range(0, len(numbers), step)]
+
+
+def volume_of(size):
+    """The volume of a size."""
+    return size[0] * size[1] * size[2]
+
+
+def goes_into(item_size, box_size):
+    """Whether an item fits into a box; the edge lengths of both are sorted already."""
+    for edge in range(EDGES):
+        if item_size[edge] > box_size[edge]:
+            return False
+    return True
+
+
+def is_stocked(stock, box):
+    """Whether the box is one of the stock."""
+    return (stock >> box) & 1 == 1
+
+
+def stocked_count(stock):
+    """How many boxes are stocked."""
+    return len([box for box in range(MOST_BOXES) if is_stocked(stock, box)])
+
+
+def stock_count(boxes):
+    """How many stocks there are: they are the numbers below this one."""
+    return 1 << (len(boxes) // NUMBERS_PER_BOX)
+
+
+def stocked_sizes(stock, boxes):
+    """The sorted sizes of the stocked boxes."""
+    sizes = sorted_sizes(boxes, NUMBERS_PER_BOX)
+    return [size for box, size in enumerate(sizes) if is_stocked(stock, box)]
+
+
+def item_cost(item_size, box_sizes):
+    """What one piece of an item costs when just these boxes are stocked."""
+    volumes = [volume_of(box_size) for box_size in box_sizes if goes_into(item_size, box_size)]
+    return min(volumes, default=COST_WITHOUT_BOX)
+
+
+def stock_cost(stock, boxes, items):
+    """The total cost of a stock, for lists that are within the limits."""
+    box_sizes = stocked_sizes(stock, boxes)
+    cost = 0
+    for item_size, quantity in zip(sorted_sizes(items, NUMBERS_PER_ITEM), quantities_of(items)):
+        cost += quantity * item_cost(item_size, box_sizes)
+    return cost
+
+
+def total_cost(stock, boxes, items):
+    """The total cost of the stock."""
+    if not are_boxes(boxes) or not are_items(items):
+        return [BAD_LIST]
+    if stock >= stock_count(boxes):
+        return [NO_SUCH_BOX]
+    return [stock_cost(stock, boxes, items)]
+
+
+def best_stock(limit, boxes, items):
+    """The cheapest stock of at most so many boxes, and its cost."""
+    if not are_boxes(boxes) or not are_items(items):
+        return [BAD_LIST]
+    best = 0
+    best_cost = stock_cost(best, boxes, items)
+    # The stocks come in the order of their numbers: one that only draws level comes too late.
+    for stock in range(1, stock_count(boxes)):
+        if stocked_count(stock) <= limit:
+            cost = stock_cost(stock, boxes, items)
+            fewer = stocked_count(stock) < stocked_count(best)
+            if cost < best_cost or (cost == best_cost and fewer):
+                best = stock
+                best_cost = cost
+    return [best, best_cost]

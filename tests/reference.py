@@ -1,0 +1,82 @@
+"""What the tests share: the document's example, an answer found another way, and inputs."""
+
+import itertools
+import random
+
+BOXES = [2, 2, 2, 3, 3, 3, 4, 2, 2]
+ITEMS = [2, 2, 1, 10, 4, 2, 1, 3, 3, 3, 2, 1]
+
+GREATEST = 4294967295
+
+
+class ReadOnlyList(list):
+    """A list that can't be changed, not even for a while."""
+
+    def refuse(self, *args, **kwargs):
+        raise AssertionError("what is handed in must not be changed")
+
+    append = clear = extend = insert = pop = remove = reverse = sort = refuse
+    __setitem__ = __delitem__ = __iadd__ = __imul__ = refuse
+
+
+def groups(numbers, step):
+    return [numbers[start:start + step] for start in range(0, len(numbers), step)]
+
+
+def turned_into(item, box):
+    """Fitting, by trying each way to turn the item."""
+    return any(
+        all(edge <= room for edge, room in zip(turned, box))
+        for turned in itertools.permutations(item)
+    )
+
+
+def piece_costs(boxes, items):
+    """For each item its quantity and what a piece costs in each box, None where it can't go."""
+    table = []
+    for *size, quantity in groups(items, 4):
+        costs = []
+        for box in groups(boxes, 3):
+            costs.append(box[0] * box[1] * box[2] if turned_into(size, box) else None)
+        table.append((quantity, costs))
+    return table
+
+
+def all_costs(boxes, items):
+    """The total cost of every stock, by the stock's number."""
+    table = piece_costs(boxes, items)
+    costs = []
+    for stock in range(2 ** (len(boxes) // 3)):
+        total = 0
+        for quantity, by_box in table:
+            stocked = [cost for box, cost in enumerate(by_box) if stock & 2 ** box and cost]
+            total += quantity * min(stocked, default=100000)
+        costs.append(total)
+    return costs
+
+
+def best_of(limit, costs):
+    """The best stock and its cost: cheapest, then fewest boxes, then the smallest number."""
+    allowed = [
+        (cost, bin(stock).count("1"), stock)
+        for stock, cost in enumerate(costs)
+        if bin(stock).count("1") <= limit
+    ]
+    cost, count, stock = min(allowed)
+    return [stock, cost]
+
+
+def made_up_inputs(seed, count):
+    """So many boxes and items, the same ones for the same seed.
+
+    Short edges make equal boxes and ties likely, long ones items that fit nowhere.
+    """
+    source = random.Random(seed)
+    for number in range(count):
+        longest = source.choice([2, 3, 5, 20])
+        boxes = [source.randint(1, longest) for edge in range(3 * source.randint(0, 7))]
+        items = []
+        for item in range(source.randint(0, 8)):
+            items += [source.randint(1, longest) for edge in range(3)]
+            items.append(source.choice([1, 2, source.randint(1, 99)]))
+        yield boxes, items

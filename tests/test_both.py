@@ -1,0 +1,190 @@
+"""What total_cost and best_stock have in common: refused lists, and what every call keeps to."""
+
+import unittest
+
+from boxeskept.stocks import best_stock, total_cost
+from reference import BOXES, GREATEST, ITEMS, ReadOnlyList, made_up_inputs
+
+BOTH = (total_cost, best_stock)
+
+# For total_cost the first two are stocks of BOXES and the others aren't; as limits all will do.
+FIRST_NUMBERS = (0, 7, 8, 128, GREATEST)
+
+
+class RefusedListsTest(unittest.TestCase):
+    def assert_refused(self, boxes, items):
+        for operation in BOTH:
+            for first in FIRST_NUMBERS:
+                self.assertEqual(
+                    operation(first, boxes, items), [-22], (operation, first, boxes, items))
+
+    def assert_taken(self, boxes, items):
+        for operation in BOTH:
+            self.assertNotEqual(operation(0, boxes, items)[0], -22, (operation, boxes, items))
+
+    def assert_boxes_refused(self, boxes):
+        for items in ([], ITEMS):
+            self.assert_refused(boxes, items)
+
+    def assert_items_refused(self, items):
+        for boxes in ([], BOXES):
+            self.assert_refused(boxes, items)
+
+    def test_every_length_of_boxes(self):
+        for length in range(41):
+            boxes = [1] * length
+            if length in (0, 3, 6, 9, 12, 15, 18, 21):
+                self.assert_taken(boxes, ITEMS)
+            else:
+                self.assert_boxes_refused(boxes)
+
+    def test_every_length_of_items(self):
+        for length in range(41):
+            items = [1] * length
+            if length in (0, 4, 8, 12, 16, 20, 24, 28, 32):
+                self.assert_taken(BOXES, items)
+            else:
+                self.assert_items_refused(items)
+
+    def test_a_number_missing_or_too_many(self):
+        self.assert_boxes_refused(BOXES[:-1])
+        self.assert_boxes_refused(BOXES[:-2])
+        self.assert_boxes_refused(BOXES + [1])
+        self.assert_items_refused(ITEMS[:-1])
+        self.assert_items_refused(ITEMS[:-3])
+        self.assert_items_refused(ITEMS + [1])
+
+    def test_8_boxes(self):
+        self.assert_taken([2, 2, 2] * 7, ITEMS)
+        self.assert_boxes_refused([2, 2, 2] * 8)
+
+    def test_9_items(self):
+        self.assert_taken(BOXES, [2, 2, 2, 99] * 8)
+        self.assert_items_refused([2, 2, 2, 99] * 9)
+
+    def test_40_numbers(self):
+        for number in (0, 1, 20, 21, 99, GREATEST):
+            self.assert_boxes_refused([number] * 40)
+            self.assert_items_refused([number] * 40)
+
+    def test_edge_of_a_box(self):
+        for place in range(21):
+            boxes = [5] * 21
+            for edge in (1, 2, 19, 20):
+                boxes[place] = edge
+                self.assert_taken(boxes, ITEMS)
+            for edge in (0, 21, 22, 99, GREATEST):
+                boxes[place] = edge
+                self.assert_boxes_refused(boxes)
+
+    def test_edge_of_an_item(self):
+        for place in range(32):
+            if place % 4 == 3:
+                continue
+            items = [5] * 32
+            for edge in (1, 2, 19, 20):
+                items[place] = edge
+                self.assert_taken(BOXES, items)
+            for edge in (0, 21, 22, 99, 100, GREATEST):
+                items[place] = edge
+                self.assert_items_refused(items)
+
+    def test_quantity_of_an_item(self):
+        for place in range(3, 32, 4):
+            items = [5] * 32
+            for quantity in (1, 2, 20, 21, 98, 99):
+                items[place] = quantity
+                self.assert_taken(BOXES, items)
+            for quantity in (0, 100, 101, GREATEST):
+                items[place] = quantity
+                self.assert_items_refused(items)
+
+    def test_one_of_one(self):
+        for edge in (0, 21, GREATEST):
+            self.assert_boxes_refused([edge, 1, 1])
+            self.assert_items_refused([1, edge, 1, 1])
+        for quantity in (0, 100, GREATEST):
+            self.assert_items_refused([1, 1, 1, quantity])
+
+    def test_boxes_and_items_alike(self):
+        for boxes in ([1], [1] * 24, [0, 1, 1], [1, 21, 1], [GREATEST] * 3):
+            for items in ([1], [1] * 36, [0, 1, 1, 1], [1, 1, 1, 100], [GREATEST] * 4):
+                self.assert_refused(boxes, items)
+
+    def test_ahead_of_a_stock_that_does_not_exist(self):
+        self.assertEqual(total_cost(8, BOXES, ITEMS), [-2])
+        self.assertEqual(total_cost(8, BOXES, ITEMS + [1]), [-22])
+        self.assertEqual(total_cost(8, BOXES, [1, 1, 1, 0]), [-22])
+        self.assertEqual(total_cost(8, BOXES + [1], ITEMS), [-22])
+        self.assertEqual(total_cost(8, [0] + BOXES[1:], ITEMS), [-22])
+        self.assertEqual(total_cost(GREATEST, [1], [1]), [-22])
+
+
+class EveryCallTest(unittest.TestCase):
+    def calls(self):
+        refused = (([1], ITEMS), (BOXES, [1]), ([21, 1, 1], [1, 1, 1, 0]), ([1] * 40, [1] * 40))
+        inputs = list(made_up_inputs(31, 60)) + [(BOXES, ITEMS), ([], [])] + list(refused)
+        for boxes, items in inputs:
+            for first in FIRST_NUMBERS:
+                for operation in BOTH:
+                    yield operation, first, boxes, items
+
+    def test_what_is_handed_in_is_unchanged(self):
+        for operation, first, boxes, items in self.calls():
+            boxes_then = list(boxes)
+            items_then = list(items)
+            operation(first, boxes, items)
+            self.assertEqual(boxes, boxes_then)
+            self.assertEqual(items, items_then)
+
+    def test_what_is_handed_in_is_not_changed_for_a_while(self):
+        for operation, first, boxes, items in self.calls():
+            answer = operation(first, boxes, items)
+            again = operation(first, ReadOnlyList(boxes), ReadOnlyList(items))
+            self.assertEqual(again, answer)
+
+    def test_one_list_as_boxes_and_items(self):
+        self.assertEqual(total_cost(1, [2] * 12, [2] * 12), [48])
+        both = ReadOnlyList([2] * 12)
+        self.assertEqual(total_cost(1, both, both), [48])
+        self.assertEqual(best_stock(1, both, both), [1, 48])
+
+    def test_same_answer_when_called_again(self):
+        calls = list(self.calls())
+        answers = [operation(*inputs) for operation, *inputs in calls]
+        for (operation, *inputs), answer in zip(reversed(calls), reversed(answers)):
+            self.assertEqual(operation(*inputs), answer)
+            self.assertEqual(operation(*inputs), answer)
+
+    def test_a_changed_answer_does_not_show_in_the_next(self):
+        for operation, first, boxes, items in self.calls():
+            answer = operation(first, boxes, items)
+            kept = list(answer)
+            answer.append(1)
+            self.assertEqual(operation(first, boxes, items), kept)
+
+    def test_the_answer_is_a_list_of_whole_numbers(self):
+        for operation, first, boxes, items in self.calls():
+            answer = operation(first, boxes, items)
+            self.assertIs(type(answer), list)
+            for number in answer:
+                self.assertIs(type(number), int)
+
+    def test_as_many_numbers_as_told_and_an_error_code_alone(self):
+        lengths = {total_cost: 1, best_stock: 2}
+        for operation, first, boxes, items in self.calls():
+            answer = operation(first, boxes, items)
+            if answer[0] < 0:
+                self.assertIn(answer, ([-22], [-2]))
+            else:
+                self.assertEqual(len(answer), lengths[operation])
+                self.assertGreaterEqual(min(answer), 0)
+
+    def test_best_stock_is_refused_for_its_lists_alone(self):
+        for operation, first, boxes, items in self.calls():
+            if operation == best_stock:
+                self.assertNotEqual(operation(first, boxes, items), [-2])
+
+
+if __name__ == "__main__":
+    unittest.main()
