@@ -1,7 +1,8 @@
-"""What a stock of boxes costs, and which stock costs least."""
+"""What a stock of boxes costs, which stock costs least, and which stocked box an item goes into."""
 
 BAD_LIST = -22
 NO_SUCH_BOX = -2
+FITS_NOWHERE = -33
 
 EDGES = 3
 NUMBERS_PER_BOX = 3
@@ -41,6 +42,11 @@ def are_items(items):
     return in_range(quantities_of(items), GREATEST_QUANTITY)
 
 
+def is_size(size):
+    """Whether the list is one size, within the limits."""
+    return len(size) == EDGES and in_range(size, LONGEST_EDGE)
+
+
 def quantities_of(items):
     """The quantity of each item, in the order of the list."""
     return items[EDGES::NUMBERS_PER_ITEM]
@@ -74,9 +80,14 @@ def stocked_count(stock):
     return len([box for box in range(MOST_BOXES) if is_stocked(stock, box)])
 
 
+def box_count(boxes):
+    """How many boxes the list holds."""
+    return len(boxes) // NUMBERS_PER_BOX
+
+
 def stock_count(boxes):
     """How many stocks there are: they are the numbers below this one."""
-    return 1 << (len(boxes) // NUMBERS_PER_BOX)
+    return 1 << box_count(boxes)
 
 
 def stocked_sizes(stock, boxes):
@@ -124,3 +135,54 @@ def best_stock(limit, boxes, items):
                 best = stock
                 best_cost = cost
     return [best, best_cost]
+
+
+def with_next_box(stock, boxes, items):
+    """The stock with the box that reduces its cost most; the same stock if no box reduces it."""
+    next_stock = stock
+    next_cost = stock_cost(stock, boxes, items)
+    for box in range(box_count(boxes)):
+        larger = stock | (1 << box)
+        cost = stock_cost(larger, boxes, items)
+        # The boxes come in the order of their indexes: one that only draws level comes too late.
+        if cost < next_cost:
+            next_stock = larger
+            next_cost = cost
+    return next_stock
+
+
+def greedy_stock(limit, boxes, items):
+    """The stock that grows box by box, each time by the one that saves most, and its cost."""
+    if not are_boxes(boxes) or not are_items(items):
+        return [BAD_LIST]
+    stock = 0
+    while stocked_count(stock) < limit:
+        larger = with_next_box(stock, boxes, items)
+        if larger == stock:
+            break
+        stock = larger
+    return [stock, stock_cost(stock, boxes, items)]
+
+
+def stocked_boxes_for(stock, boxes, size):
+    """The indexes of the stocked boxes into which an item of this size fits, in rising order."""
+    item_size = sorted(size)
+    box_sizes = sorted_sizes(boxes, NUMBERS_PER_BOX)
+    stocked = [box for box in range(box_count(boxes)) if is_stocked(stock, box)]
+    return [box for box in stocked if goes_into(item_size, box_sizes[box])]
+
+
+def box_for(stock, boxes, size):
+    """The smallest stocked box into which an item of this size fits, and its volume."""
+    if not are_boxes(boxes) or not is_size(size):
+        return [BAD_LIST]
+    if stock >= stock_count(boxes):
+        return [NO_SUCH_BOX]
+    fitting = stocked_boxes_for(stock, boxes, size)
+    if len(fitting) == 0:
+        return [FITS_NOWHERE]
+    box_sizes = sorted_sizes(boxes, NUMBERS_PER_BOX)
+    volumes = [volume_of(box_sizes[box]) for box in fitting]
+    volume = min(volumes)
+    # Of equal volumes the first one's place is found, and so the smallest index.
+    return [fitting[volumes.index(volume)], volume]

@@ -66,6 +66,33 @@ def best_of(limit, costs):
     return [stock, cost]
 
 
+def greedy_of(limit, costs):
+    """The greedy stock and its cost, step by step from the table of all costs."""
+    count = len(costs).bit_length() - 1
+    stock = 0
+    for step in range(min(limit, count)):
+        cost, box = min((costs[stock | 2 ** box], box) for box in range(count))
+        if cost == costs[stock]:
+            break
+        stock |= 2 ** box
+    return [stock, costs[stock]]
+
+
+def box_of(stock, boxes, size):
+    """What box_for answers for lists that are within the limits."""
+    if stock >= 2 ** (len(boxes) // 3):
+        return [-2]
+    fitting = [
+        (box[0] * box[1] * box[2], index)
+        for index, box in enumerate(groups(boxes, 3))
+        if stock & 2 ** index and turned_into(size, box)
+    ]
+    if not fitting:
+        return [-33]
+    volume, index = min(fitting)
+    return [index, volume]
+
+
 def made_up_inputs(seed, count):
     """So many boxes and items, the same ones for the same seed.
 
@@ -80,3 +107,11 @@ def made_up_inputs(seed, count):
             items += [source.randint(1, longest) for edge in range(3)]
             items.append(source.choice([1, 2, source.randint(1, 99)]))
         yield boxes, items
+
+
+def made_up_sizes(seed, count):
+    """So many boxes and sizes, the same ones for the same seed."""
+    source = random.Random(seed)
+    for boxes, items in made_up_inputs(seed, count):
+        longest = source.choice([2, 3, 5, 20])
+        yield boxes, [source.randint(1, longest) for edge in range(3)]

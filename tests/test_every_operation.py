@@ -1,25 +1,26 @@
-"""What total_cost and best_stock have in common: refused lists, and what every call keeps to."""
+"""What the operations have in common: refused lists, and what every call keeps to."""
 
 import unittest
 
-from boxeskept.stocks import best_stock, total_cost
-from reference import BOXES, GREATEST, ITEMS, ReadOnlyList, made_up_inputs
+from boxeskept.stocks import best_stock, box_for, greedy_stock, total_cost
+from reference import BOXES, GREATEST, ITEMS, ReadOnlyList, made_up_inputs, made_up_sizes
 
-BOTH = (total_cost, best_stock)
+# These are handed a stock or a limit, boxes and items; box_for is handed a size instead of items.
+WITH_ITEMS = (total_cost, best_stock, greedy_stock)
 
-# For total_cost the first two are stocks of BOXES and the others aren't; as limits all will do.
+# The first two are stocks of BOXES and the others aren't; as limits all will do.
 FIRST_NUMBERS = (0, 7, 8, 128, GREATEST)
 
 
 class RefusedListsTest(unittest.TestCase):
     def assert_refused(self, boxes, items):
-        for operation in BOTH:
+        for operation in WITH_ITEMS:
             for first in FIRST_NUMBERS:
                 self.assertEqual(
                     operation(first, boxes, items), [-22], (operation, first, boxes, items))
 
     def assert_taken(self, boxes, items):
-        for operation in BOTH:
+        for operation in WITH_ITEMS:
             self.assertNotEqual(operation(0, boxes, items)[0], -22, (operation, boxes, items))
 
     def assert_boxes_refused(self, boxes):
@@ -121,33 +122,53 @@ class RefusedListsTest(unittest.TestCase):
 
 
 class EveryCallTest(unittest.TestCase):
-    def calls(self):
+    def calls_with_items(self):
         refused = (([1], ITEMS), (BOXES, [1]), ([21, 1, 1], [1, 1, 1, 0]), ([1] * 40, [1] * 40))
         inputs = list(made_up_inputs(31, 60)) + [(BOXES, ITEMS), ([], [])] + list(refused)
         for boxes, items in inputs:
             for first in FIRST_NUMBERS:
-                for operation in BOTH:
+                for operation in WITH_ITEMS:
                     yield operation, first, boxes, items
 
+    def calls_of_box_for(self):
+        refused = (([1], [1, 1, 1]), (BOXES, [1]), ([21, 1, 1], [1, 1, 0]), ([1] * 40, [1] * 40))
+        known = ((BOXES, [1, 4, 2]), (BOXES, [3, 1, 2]), (BOXES, [20, 1, 3]), ([], [1, 1, 1]))
+        for boxes, size in list(made_up_sizes(32, 60)) + list(known + refused):
+            for first in FIRST_NUMBERS:
+                yield box_for, first, boxes, size
+
+    def calls(self):
+        yield from self.calls_with_items()
+        yield from self.calls_of_box_for()
+
     def test_what_is_handed_in_is_unchanged(self):
-        for operation, first, boxes, items in self.calls():
-            boxes_then = list(boxes)
-            items_then = list(items)
-            operation(first, boxes, items)
-            self.assertEqual(boxes, boxes_then)
-            self.assertEqual(items, items_then)
+        for operation, first, *lists in self.calls():
+            then = [list(numbers) for numbers in lists]
+            operation(first, *lists)
+            self.assertEqual(lists, then, operation)
 
     def test_what_is_handed_in_is_not_changed_for_a_while(self):
-        for operation, first, boxes, items in self.calls():
-            answer = operation(first, boxes, items)
-            again = operation(first, ReadOnlyList(boxes), ReadOnlyList(items))
+        for operation, first, *lists in self.calls():
+            answer = operation(first, *lists)
+            again = operation(first, *[ReadOnlyList(numbers) for numbers in lists])
             self.assertEqual(again, answer)
+
+    def test_the_calls_bring_every_answer_of_box_for(self):
+        answers = [operation(*inputs) for operation, *inputs in self.calls_of_box_for()]
+        for refusal in ([-22], [-2], [-33]):
+            self.assertIn(refusal, answers)
+        self.assertIn([2, 16], answers)
 
     def test_one_list_as_boxes_and_items(self):
         self.assertEqual(total_cost(1, [2] * 12, [2] * 12), [48])
         both = ReadOnlyList([2] * 12)
         self.assertEqual(total_cost(1, both, both), [48])
         self.assertEqual(best_stock(1, both, both), [1, 48])
+        self.assertEqual(greedy_stock(1, both, both), [1, 48])
+
+    def test_one_list_as_boxes_and_size(self):
+        both = ReadOnlyList([3, 1, 2])
+        self.assertEqual(box_for(1, both, both), [0, 6])
 
     def test_same_answer_when_called_again(self):
         calls = list(self.calls())
@@ -157,33 +178,34 @@ class EveryCallTest(unittest.TestCase):
             self.assertEqual(operation(*inputs), answer)
 
     def test_a_changed_answer_does_not_show_in_the_next(self):
-        for operation, first, boxes, items in self.calls():
-            answer = operation(first, boxes, items)
+        for operation, *inputs in self.calls():
+            answer = operation(*inputs)
             kept = list(answer)
             answer.append(1)
-            self.assertEqual(operation(first, boxes, items), kept)
+            self.assertEqual(operation(*inputs), kept)
 
     def test_the_answer_is_a_list_of_whole_numbers(self):
-        for operation, first, boxes, items in self.calls():
-            answer = operation(first, boxes, items)
+        for operation, *inputs in self.calls():
+            answer = operation(*inputs)
             self.assertIs(type(answer), list)
             for number in answer:
                 self.assertIs(type(number), int)
 
     def test_as_many_numbers_as_told_and_an_error_code_alone(self):
-        lengths = {total_cost: 1, best_stock: 2}
-        for operation, first, boxes, items in self.calls():
-            answer = operation(first, boxes, items)
+        lengths = {total_cost: 1, best_stock: 2, greedy_stock: 2, box_for: 2}
+        refusals = {
+            total_cost: ([-22], [-2]),
+            best_stock: ([-22],),
+            greedy_stock: ([-22],),
+            box_for: ([-22], [-2], [-33]),
+        }
+        for operation, *inputs in self.calls():
+            answer = operation(*inputs)
             if answer[0] < 0:
-                self.assertIn(answer, ([-22], [-2]))
+                self.assertIn(answer, refusals[operation])
             else:
                 self.assertEqual(len(answer), lengths[operation])
                 self.assertGreaterEqual(min(answer), 0)
-
-    def test_best_stock_is_refused_for_its_lists_alone(self):
-        for operation, first, boxes, items in self.calls():
-            if operation == best_stock:
-                self.assertNotEqual(operation(first, boxes, items), [-2])
 
 
 if __name__ == "__main__":
