@@ -1,7 +1,8 @@
-"""What a stock of boxes costs, which stock costs least, and which stocked box an item goes into."""
+"""What stocks of boxes cost and save, which ones cost least, and which box an item goes into."""
 
 BAD_LIST = -22
 NO_SUCH_BOX = -2
+STOCKED_ALREADY = -17
 FITS_NOWHERE = -33
 
 EDGES = 3
@@ -90,6 +91,11 @@ def stock_count(boxes):
     return 1 << box_count(boxes)
 
 
+def with_box(stock, box):
+    """The stock with this box beside the others."""
+    return stock | (1 << box)
+
+
 def stocked_sizes(stock, boxes):
     """The sorted sizes of the stocked boxes."""
     sizes = sorted_sizes(boxes, NUMBERS_PER_BOX)
@@ -142,7 +148,7 @@ def with_next_box(stock, boxes, items):
     next_stock = stock
     next_cost = stock_cost(stock, boxes, items)
     for box in range(box_count(boxes)):
-        larger = stock | (1 << box)
+        larger = with_box(stock, box)
         cost = stock_cost(larger, boxes, items)
         # The boxes come in the order of their indexes: one that only draws level comes too late.
         if cost < next_cost:
@@ -186,3 +192,23 @@ def box_for(stock, boxes, size):
     volume = min(volumes)
     # Of equal volumes the first one's place is found, and so the smallest index.
     return [fitting[volumes.index(volume)], volume]
+
+
+def saving(stock, box, boxes, items):
+    """By how much the total cost decreases with one more box in the stock."""
+    if not are_boxes(boxes) or not are_items(items):
+        return [BAD_LIST]
+    if stock >= stock_count(boxes) or box >= box_count(boxes):
+        return [NO_SUCH_BOX]
+    if is_stocked(stock, box):
+        return [STOCKED_ALREADY]
+    cost_with_box = stock_cost(with_box(stock, box), boxes, items)
+    return [stock_cost(stock, boxes, items) - cost_with_box]
+
+
+def cost_curve(boxes, items):
+    """How many limits there are from 0 to the number of boxes, and the best stock's cost for each."""
+    if not are_boxes(boxes) or not are_items(items):
+        return [BAD_LIST]
+    costs = [best_stock(limit, boxes, items)[1] for limit in range(box_count(boxes) + 1)]
+    return [len(costs)] + costs

@@ -78,6 +78,22 @@ def greedy_of(limit, costs):
     return [stock, costs[stock]]
 
 
+def curve_of(costs):
+    """What cost_curve answers, from the table of all costs."""
+    count = len(costs).bit_length() - 1
+    return [count + 1] + [best_of(limit, costs)[1] for limit in range(count + 1)]
+
+
+def saving_of(stock, box, costs):
+    """What saving answers for lists that are within the limits, from the table of all costs."""
+    count = len(costs).bit_length() - 1
+    if stock not in range(len(costs)) or box not in range(count):
+        return [-2]
+    if bin(stock)[2:].zfill(count)[-1 - box] == "1":
+        return [-17]
+    return [costs[stock] - costs[stock + 2 ** box]]
+
+
 def box_of(stock, boxes, size):
     """What box_for answers for lists that are within the limits."""
     if stock >= 2 ** (len(boxes) // 3):

@@ -2,26 +2,36 @@
 
 import unittest
 
-from boxeskept.stocks import best_stock, box_for, greedy_stock, total_cost
+from boxeskept.stocks import best_stock, box_for, cost_curve, greedy_stock, saving, total_cost
 from reference import BOXES, GREATEST, ITEMS, ReadOnlyList, made_up_inputs, made_up_sizes
 
-# These are handed a stock or a limit, boxes and items; box_for is handed a size instead of items.
-WITH_ITEMS = (total_cost, best_stock, greedy_stock)
-
 # The first two are stocks of BOXES and the others aren't; as limits all will do.
-FIRST_NUMBERS = (0, 7, 8, 128, GREATEST)
+FIRST_NUMBERS = [(number,) for number in (0, 7, 8, 128, GREATEST)]
+
+# A box that can be added, one that is stocked, and boxes and stocks that don't exist.
+STOCKS_AND_BOXES = [(0, 0), (5, 1), (7, 2), (0, 3), (8, 0), (8, 3), (128, 7), (GREATEST, GREATEST)]
+
+# These are handed boxes and items, behind these numbers; box_for is handed a size instead of items.
+WITH_ITEMS = {
+    total_cost: FIRST_NUMBERS,
+    best_stock: FIRST_NUMBERS,
+    greedy_stock: FIRST_NUMBERS,
+    saving: STOCKS_AND_BOXES,
+    cost_curve: [()],
+}
 
 
 class RefusedListsTest(unittest.TestCase):
     def assert_refused(self, boxes, items):
-        for operation in WITH_ITEMS:
-            for first in FIRST_NUMBERS:
+        for operation, choices in WITH_ITEMS.items():
+            for numbers in choices:
                 self.assertEqual(
-                    operation(first, boxes, items), [-22], (operation, first, boxes, items))
+                    operation(*numbers, boxes, items), [-22], (operation, numbers, boxes, items))
 
     def assert_taken(self, boxes, items):
-        for operation in WITH_ITEMS:
-            self.assertNotEqual(operation(0, boxes, items)[0], -22, (operation, boxes, items))
+        for operation, choices in WITH_ITEMS.items():
+            answer = operation(*choices[0], boxes, items)
+            self.assertNotEqual(answer[0], -22, (operation, boxes, items))
 
     def assert_boxes_refused(self, boxes):
         for items in ([], ITEMS):
@@ -113,12 +123,21 @@ class RefusedListsTest(unittest.TestCase):
                 self.assert_refused(boxes, items)
 
     def test_ahead_of_a_stock_that_does_not_exist(self):
-        self.assertEqual(total_cost(8, BOXES, ITEMS), [-2])
-        self.assertEqual(total_cost(8, BOXES, ITEMS + [1]), [-22])
-        self.assertEqual(total_cost(8, BOXES, [1, 1, 1, 0]), [-22])
-        self.assertEqual(total_cost(8, BOXES + [1], ITEMS), [-22])
-        self.assertEqual(total_cost(8, [0] + BOXES[1:], ITEMS), [-22])
+        for operation, numbers in ((total_cost, (8,)), (saving, (8, 0))):
+            self.assertEqual(operation(*numbers, BOXES, ITEMS), [-2])
+            self.assertEqual(operation(*numbers, BOXES, ITEMS + [1]), [-22])
+            self.assertEqual(operation(*numbers, BOXES, [1, 1, 1, 0]), [-22])
+            self.assertEqual(operation(*numbers, BOXES + [1], ITEMS), [-22])
+            self.assertEqual(operation(*numbers, [0] + BOXES[1:], ITEMS), [-22])
         self.assertEqual(total_cost(GREATEST, [1], [1]), [-22])
+        self.assertEqual(saving(GREATEST, GREATEST, [1], [1]), [-22])
+
+
+def told_length(operation, lists):
+    """How many numbers the operation answers when it refuses nothing."""
+    if operation == cost_curve:
+        return len(lists[0]) // 3 + 2
+    return {total_cost: 1, best_stock: 2, greedy_stock: 2, box_for: 2, saving: 1}[operation]
 
 
 class EveryCallTest(unittest.TestCase):
@@ -126,38 +145,32 @@ class EveryCallTest(unittest.TestCase):
         refused = (([1], ITEMS), (BOXES, [1]), ([21, 1, 1], [1, 1, 1, 0]), ([1] * 40, [1] * 40))
         inputs = list(made_up_inputs(31, 60)) + [(BOXES, ITEMS), ([], [])] + list(refused)
         for boxes, items in inputs:
-            for first in FIRST_NUMBERS:
-                for operation in WITH_ITEMS:
-                    yield operation, first, boxes, items
+            for operation, choices in WITH_ITEMS.items():
+                for numbers in choices:
+                    yield operation, numbers, [boxes, items]
 
     def calls_of_box_for(self):
         refused = (([1], [1, 1, 1]), (BOXES, [1]), ([21, 1, 1], [1, 1, 0]), ([1] * 40, [1] * 40))
         known = ((BOXES, [1, 4, 2]), (BOXES, [3, 1, 2]), (BOXES, [20, 1, 3]), ([], [1, 1, 1]))
         for boxes, size in list(made_up_sizes(32, 60)) + list(known + refused):
-            for first in FIRST_NUMBERS:
-                yield box_for, first, boxes, size
+            for numbers in FIRST_NUMBERS:
+                yield box_for, numbers, [boxes, size]
 
     def calls(self):
         yield from self.calls_with_items()
         yield from self.calls_of_box_for()
 
     def test_what_is_handed_in_is_unchanged(self):
-        for operation, first, *lists in self.calls():
-            then = [list(numbers) for numbers in lists]
-            operation(first, *lists)
+        for operation, numbers, lists in self.calls():
+            then = [list(handed) for handed in lists]
+            operation(*numbers, *lists)
             self.assertEqual(lists, then, operation)
 
     def test_what_is_handed_in_is_not_changed_for_a_while(self):
-        for operation, first, *lists in self.calls():
-            answer = operation(first, *lists)
-            again = operation(first, *[ReadOnlyList(numbers) for numbers in lists])
+        for operation, numbers, lists in self.calls():
+            answer = operation(*numbers, *lists)
+            again = operation(*numbers, *[ReadOnlyList(handed) for handed in lists])
             self.assertEqual(again, answer)
-
-    def test_the_calls_bring_every_answer_of_box_for(self):
-        answers = [operation(*inputs) for operation, *inputs in self.calls_of_box_for()]
-        for refusal in ([-22], [-2], [-33]):
-            self.assertIn(refusal, answers)
-        self.assertIn([2, 16], answers)
 
     def test_one_list_as_boxes_and_items(self):
         self.assertEqual(total_cost(1, [2] * 12, [2] * 12), [48])
@@ -165,6 +178,8 @@ class EveryCallTest(unittest.TestCase):
         self.assertEqual(total_cost(1, both, both), [48])
         self.assertEqual(best_stock(1, both, both), [1, 48])
         self.assertEqual(greedy_stock(1, both, both), [1, 48])
+        self.assertEqual(saving(0, 1, both, both), [599952])
+        self.assertEqual(cost_curve(both, both), [5, 600000, 48, 48, 48, 48])
 
     def test_one_list_as_boxes_and_size(self):
         both = ReadOnlyList([3, 1, 2])
@@ -172,40 +187,46 @@ class EveryCallTest(unittest.TestCase):
 
     def test_same_answer_when_called_again(self):
         calls = list(self.calls())
-        answers = [operation(*inputs) for operation, *inputs in calls]
-        for (operation, *inputs), answer in zip(reversed(calls), reversed(answers)):
-            self.assertEqual(operation(*inputs), answer)
-            self.assertEqual(operation(*inputs), answer)
+        answers = [operation(*numbers, *lists) for operation, numbers, lists in calls]
+        for (operation, numbers, lists), answer in zip(reversed(calls), reversed(answers)):
+            self.assertEqual(operation(*numbers, *lists), answer)
+            self.assertEqual(operation(*numbers, *lists), answer)
 
     def test_a_changed_answer_does_not_show_in_the_next(self):
-        for operation, *inputs in self.calls():
-            answer = operation(*inputs)
+        for operation, numbers, lists in self.calls():
+            answer = operation(*numbers, *lists)
             kept = list(answer)
             answer.append(1)
-            self.assertEqual(operation(*inputs), kept)
+            self.assertEqual(operation(*numbers, *lists), kept)
 
     def test_the_answer_is_a_list_of_whole_numbers(self):
-        for operation, *inputs in self.calls():
-            answer = operation(*inputs)
+        for operation, numbers, lists in self.calls():
+            answer = operation(*numbers, *lists)
             self.assertIs(type(answer), list)
             for number in answer:
                 self.assertIs(type(number), int)
 
     def test_as_many_numbers_as_told_and_an_error_code_alone(self):
-        lengths = {total_cost: 1, best_stock: 2, greedy_stock: 2, box_for: 2}
         refusals = {
-            total_cost: ([-22], [-2]),
-            best_stock: ([-22],),
-            greedy_stock: ([-22],),
-            box_for: ([-22], [-2], [-33]),
+            total_cost: [[-22], [-2]],
+            best_stock: [[-22]],
+            greedy_stock: [[-22]],
+            box_for: [[-22], [-2], [-33]],
+            saving: [[-22], [-2], [-17]],
+            cost_curve: [[-22]],
         }
-        for operation, *inputs in self.calls():
-            answer = operation(*inputs)
+        refused = {operation: [] for operation in refusals}
+        for operation, numbers, lists in self.calls():
+            answer = operation(*numbers, *lists)
             if answer[0] < 0:
                 self.assertIn(answer, refusals[operation])
+                refused[operation].append(answer)
             else:
-                self.assertEqual(len(answer), lengths[operation])
+                self.assertEqual(len(answer), told_length(operation, lists))
                 self.assertGreaterEqual(min(answer), 0)
+        for operation, answers in refusals.items():
+            for answer in answers:
+                self.assertIn(answer, refused[operation])
 
 
 if __name__ == "__main__":
