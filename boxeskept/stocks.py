@@ -1,4 +1,4 @@
-"""What stocks of boxes cost and save, which ones cost least, and which box an item goes into."""
+"""What stocks of boxes cost, save and leave empty, and which box an item fits into."""
 
 BAD_LIST = -22
 NO_SUCH_BOX = -2
@@ -117,6 +117,14 @@ def stock_cost(stock, boxes, items):
     return cost
 
 
+def pieces_volume(items):
+    """The volume of all pieces together."""
+    volume = 0
+    for size, quantity in zip(sorted_sizes(items, NUMBERS_PER_ITEM), quantities_of(items)):
+        volume += quantity * volume_of(size)
+    return volume
+
+
 def total_cost(stock, boxes, items):
     """The total cost of the stock."""
     if not are_boxes(boxes) or not are_items(items):
@@ -207,8 +215,24 @@ def saving(stock, box, boxes, items):
 
 
 def cost_curve(boxes, items):
-    """How many limits there are from 0 to the number of boxes, and the best stock's cost for each."""
+    """How many limits there are up to the number of boxes, and the best stock's cost for each."""
     if not are_boxes(boxes) or not are_items(items):
         return [BAD_LIST]
     costs = [best_stock(limit, boxes, items)[1] for limit in range(box_count(boxes) + 1)]
     return [len(costs)] + costs
+
+
+def fits(item_size, box_size):
+    """1 if an item of the one size fits into a box of the other, 0 if it doesn't."""
+    if not is_size(item_size) or not is_size(box_size):
+        return [BAD_LIST]
+    return [1 if goes_into(sorted(item_size), sorted(box_size)) else 0]
+
+
+def empty_space(stock, boxes, items):
+    """0, and how much of the total cost isn't taken up by the items' own volume."""
+    if not are_boxes(boxes) or not are_items(items):
+        return [BAD_LIST]
+    if stock >= stock_count(boxes):
+        return [NO_SUCH_BOX]
+    return [0, stock_cost(stock, boxes, items) - pieces_volume(items)]

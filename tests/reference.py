@@ -94,6 +94,14 @@ def saving_of(stock, box, costs):
     return [costs[stock] - costs[stock + 2 ** box]]
 
 
+def space_of(stock, costs, items):
+    """What empty_space answers for a stock that exists, from the table of all costs."""
+    space = costs[stock]
+    for length, width, height, quantity in groups(items, 4):
+        space -= length * width * height * quantity
+    return [0, space]
+
+
 def box_of(stock, boxes, size):
     """What box_for answers for lists that are within the limits."""
     if stock >= 2 ** (len(boxes) // 3):

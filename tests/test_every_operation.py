@@ -2,7 +2,9 @@
 
 import unittest
 
-from boxeskept.stocks import best_stock, box_for, cost_curve, greedy_stock, saving, total_cost
+from boxeskept.stocks import (
+    best_stock, box_for, cost_curve, empty_space, fits, greedy_stock, saving, total_cost,
+)
 from reference import BOXES, GREATEST, ITEMS, ReadOnlyList, made_up_inputs, made_up_sizes
 
 # The first two are stocks of BOXES and the others aren't; as limits all will do.
@@ -11,13 +13,18 @@ FIRST_NUMBERS = [(number,) for number in (0, 7, 8, 128, GREATEST)]
 # A box that can be added, one that is stocked, and boxes and stocks that don't exist.
 STOCKS_AND_BOXES = [(0, 0), (5, 1), (7, 2), (0, 3), (8, 0), (8, 3), (128, 7), (GREATEST, GREATEST)]
 
-# These are handed boxes and items, behind these numbers; box_for is handed a size instead of items.
+# These are handed boxes and items, behind these numbers; box_for and fits are handed sizes.
 WITH_ITEMS = {
     total_cost: FIRST_NUMBERS,
     best_stock: FIRST_NUMBERS,
     greedy_stock: FIRST_NUMBERS,
     saving: STOCKS_AND_BOXES,
     cost_curve: [()],
+    empty_space: FIRST_NUMBERS,
+}
+
+LENGTHS = {
+    total_cost: 1, best_stock: 2, greedy_stock: 2, box_for: 2, saving: 1, fits: 1, empty_space: 2,
 }
 
 
@@ -123,7 +130,7 @@ class RefusedListsTest(unittest.TestCase):
                 self.assert_refused(boxes, items)
 
     def test_ahead_of_a_stock_that_does_not_exist(self):
-        for operation, numbers in ((total_cost, (8,)), (saving, (8, 0))):
+        for operation, numbers in ((total_cost, (8,)), (saving, (8, 0)), (empty_space, (8,))):
             self.assertEqual(operation(*numbers, BOXES, ITEMS), [-2])
             self.assertEqual(operation(*numbers, BOXES, ITEMS + [1]), [-22])
             self.assertEqual(operation(*numbers, BOXES, [1, 1, 1, 0]), [-22])
@@ -131,13 +138,14 @@ class RefusedListsTest(unittest.TestCase):
             self.assertEqual(operation(*numbers, [0] + BOXES[1:], ITEMS), [-22])
         self.assertEqual(total_cost(GREATEST, [1], [1]), [-22])
         self.assertEqual(saving(GREATEST, GREATEST, [1], [1]), [-22])
+        self.assertEqual(empty_space(GREATEST, [1], [1]), [-22])
 
 
 def told_length(operation, lists):
     """How many numbers the operation answers when it refuses nothing."""
     if operation == cost_curve:
         return len(lists[0]) // 3 + 2
-    return {total_cost: 1, best_stock: 2, greedy_stock: 2, box_for: 2, saving: 1}[operation]
+    return LENGTHS[operation]
 
 
 class EveryCallTest(unittest.TestCase):
@@ -156,9 +164,17 @@ class EveryCallTest(unittest.TestCase):
             for numbers in FIRST_NUMBERS:
                 yield box_for, numbers, [boxes, size]
 
+    def calls_of_fits(self):
+        sizes = [[1, 4, 2], [4, 2, 1], [2, 2, 2], [20, 1, 3], [20, 20, 20]]
+        refused = [[], [1], [1, 1, 0], [21, 1, 1], [1] * 4, [1] * 40, [GREATEST] * 3]
+        for item_size in sizes + refused:
+            for box_size in sizes + refused:
+                yield fits, (), [list(item_size), list(box_size)]
+
     def calls(self):
         yield from self.calls_with_items()
         yield from self.calls_of_box_for()
+        yield from self.calls_of_fits()
 
     def test_what_is_handed_in_is_unchanged(self):
         for operation, numbers, lists in self.calls():
@@ -180,10 +196,12 @@ class EveryCallTest(unittest.TestCase):
         self.assertEqual(greedy_stock(1, both, both), [1, 48])
         self.assertEqual(saving(0, 1, both, both), [599952])
         self.assertEqual(cost_curve(both, both), [5, 600000, 48, 48, 48, 48])
+        self.assertEqual(empty_space(0, both, both), [0, 599952])
 
-    def test_one_list_as_boxes_and_size(self):
+    def test_one_list_as_boxes_and_size_and_as_both_sizes(self):
         both = ReadOnlyList([3, 1, 2])
         self.assertEqual(box_for(1, both, both), [0, 6])
+        self.assertEqual(fits(both, both), [1])
 
     def test_same_answer_when_called_again(self):
         calls = list(self.calls())
@@ -214,6 +232,8 @@ class EveryCallTest(unittest.TestCase):
             box_for: [[-22], [-2], [-33]],
             saving: [[-22], [-2], [-17]],
             cost_curve: [[-22]],
+            fits: [[-22]],
+            empty_space: [[-22], [-2]],
         }
         refused = {operation: [] for operation in refusals}
         for operation, numbers, lists in self.calls():
